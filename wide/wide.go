@@ -22,12 +22,18 @@ func Of(v int64) Int {
 	return Int{uint64(v), sign, sign}
 }
 
-// Product is a b, exactly. Only a keeps its sign: Times takes none, and of the least int64 the negative wraps to 2^63, which is its size.
+// Product is a b, exactly.
 func Product(a, b int64) Int {
-	if b < 0 {
-		return Of(a).Times(uint64(-b)).Neg()
+	return Of(a).By(b)
+}
+
+// Sum is the sum of the products of numbers that stand side by side, as times makes them: of words by Product, of numbers that are wide already by Int.By. Both lists are as long.
+func Sum[T any](a []T, b []int64, times func(T, int64) Int) Int {
+	total := Int{}
+	for i, v := range a {
+		total = total.Plus(times(v, b[i]))
 	}
-	return Of(a).Times(uint64(b))
+	return total
 }
 
 func (a Int) Plus(b Int) Int {
@@ -58,6 +64,14 @@ func (a Int) Times(k uint64) Int {
 		a[i], carry = sum, high+over
 	}
 	return a
+}
+
+// By is a k. Times takes no sign, and of the least int64 the negative wraps to 2^63, which is its size.
+func (a Int) By(k int64) Int {
+	if k < 0 {
+		return a.Times(uint64(-k)).Neg()
+	}
+	return a.Times(uint64(k))
 }
 
 // Sign is -1 below 0, 0 at 0, 1 above it.

@@ -109,6 +109,21 @@ func TestSumsAndMultiples(t *testing.T) {
 	}
 }
 
+func TestByAndSum(t *testing.T) {
+	list := samples()
+	for i, a := range list {
+		for _, k := range int64s() {
+			same(t, "By", a.By(k), wrapped(new(big.Int).Mul(toBig(a), big.NewInt(k))))
+		}
+		b := list[(i+1)%len(list)]
+		want := new(big.Int).Mul(toBig(a), big.NewInt(math.MinInt64))
+		want.Add(want, new(big.Int).Mul(toBig(b), big.NewInt(7)))
+		same(t, "Sum of wide ones", Sum([]Int{a, b}, []int64{math.MinInt64, 7}, Int.By), wrapped(want))
+	}
+	same(t, "Sum of words", Sum([]int64{top, 2, -top, 3}, []int64{top, 10, top, -1}, Product), big.NewInt(17))
+	same(t, "Sum of nothing", Sum([]int64{}, nil, Product), new(big.Int))
+}
+
 func TestNearest(t *testing.T) {
 	for _, c := range []struct{ a, want int64 }{
 		{0, 0}, {1, 0}, {2, 0}, {3, 1}, {4, 1}, {5, 1}, {6, 2}, {7, 2}, {9, 2}, {10, 2}, {11, 3}, {14, 4},
@@ -141,6 +156,53 @@ func TestWord(t *testing.T) {
 	}
 }
 
+func TestOverBetweenTwo(t *testing.T) {
+	for _, c := range []struct{ a, n, want int64 }{
+		{0, 1, 0}, {0, 7, 0}, {7, 1, 7}, {1, 2, 0}, {3, 2, 2}, {5, 2, 2}, {7, 2, 4}, {1, 3, 0}, {2, 3, 1}, {4, 8, 0}, {12, 8, 2},
+		{-7, 1, -7}, {-1, 2, 0}, {-3, 2, -2}, {-5, 2, -2}, {-7, 2, -4}, {-1, 3, 0}, {-2, 3, -1}, {-4, 8, 0}, {-12, 8, -2},
+	} {
+		same(t, "Over", Of(c.a).Over(Of(c.n)), big.NewInt(c.want))
+	}
+}
+
+// divisors are from 1 to below 2^92.
+func divisors() []*big.Int {
+	greatest := new(big.Int).Sub(power(92), big.NewInt(1))
+	return []*big.Int{big.NewInt(1), big.NewInt(2), big.NewInt(3), power(31), power(64), power(91), greatest}
+}
+
+func TestOver(t *testing.T) {
+	source := rand.New(rand.NewSource(5))
+	for _, n := range divisors() {
+		limit := new(big.Int).Mul(n, power(46))
+		list := []*big.Int{new(big.Int), big.NewInt(1), n, new(big.Int).Sub(limit, big.NewInt(1))}
+		for range 200 {
+			a := new(big.Int).Rand(source, limit)
+			a.Rsh(a, uint(source.Intn(138)))
+			// and at and just beside the middle between two
+			middle := new(big.Int).Add(new(big.Int).Mul(n, big.NewInt(source.Int63n(top))), new(big.Int).Rsh(n, 1))
+			list = append(list, a, middle, new(big.Int).Add(middle, big.NewInt(1)))
+		}
+		for _, a := range list {
+			same(t, "Over", fromBig(a).Over(fromBig(n)), rounded(a, n))
+			a = new(big.Int).Neg(a)
+			same(t, "Over below 0", fromBig(a).Over(fromBig(n)), rounded(a, n))
+		}
+	}
+}
+
+func TestUnit(t *testing.T) {
+	for _, c := range []struct{ v, n, want int64 }{
+		{3, 25, 644245094}, {-4, 25, -858993459}, {0, 5, 0}, {1, 1, api.One}, {-1, 1, -api.One}, {1, 4, api.One / 2}, {-1, 3, -619925131},
+	} {
+		same(t, "Unit", Unit(c.v, Of(c.n)), big.NewInt(c.want))
+	}
+	n := Product(top, top).Times(4)
+	same(t, "Unit of the greatest", Unit(top, n), big.NewInt(api.One/2))
+	same(t, "Unit of the least", Unit(-top, n), big.NewInt(-api.One/2))
+	same(t, "Unit of 1 beside the greatest", Unit(1, n), new(big.Int))
+}
+
 func TestRootBetweenTwo(t *testing.T) {
 	for _, c := range []struct{ p, n, want int64 }{
 		{0, 1, 0}, {1, 1, 1}, {2, 1, 1}, {3, 1, 2}, {6, 1, 2}, {7, 1, 3}, {16, 1, 4},
@@ -165,8 +227,7 @@ func rootOf(p, n *big.Int) *big.Int {
 
 func TestRoot(t *testing.T) {
 	source := rand.New(rand.NewSource(4))
-	greatest := new(big.Int).Sub(power(92), big.NewInt(1))
-	for _, n := range []*big.Int{big.NewInt(1), big.NewInt(2), big.NewInt(3), power(31), power(64), power(91), greatest} {
+	for _, n := range divisors() {
 		limit := new(big.Int).Mul(n, power(92))
 		list := []*big.Int{new(big.Int), big.NewInt(1), n, new(big.Int).Sub(limit, big.NewInt(1))}
 		for range 200 {

@@ -1,31 +1,16 @@
 package bus
 
 import (
-	"math"
 	"slices"
 
 	"gimbal/api"
 	"gimbal/ring"
-)
-
-// The registers of a device.
-const (
-	regID = iota
-	regOn
-	regPeriod
-	regCount
-	regQueue
-	regReset
-	lastReg = regReset
+	"gimbal/wire"
 )
 
 const (
-	maxID      = 255
-	maxPeriod  = 256 // as a byte it is 0
-	resetByte  = 0xb6
-	sampleSize = 8 // bytes
-	checkSeed  = 0x5a
-	noSample   = 0xff
+	maxPeriod = 256 // as a byte it is 0
+	noSample  = 0xff
 )
 
 // device is one on the bus.
@@ -47,24 +32,15 @@ func newDevice(m api.Model) *device {
 }
 
 func isModel(m api.Model) bool {
-	if !within(m.Addr, 0, maxAddr) || !within(m.ID, 0, maxID) || len(m.List) > api.MaxList {
+	if !wire.IsAddr(m.Addr) || !wire.IsID(m.ID) || len(m.List) > api.MaxList {
 		return false
 	}
 	for _, r := range m.List {
-		if !isRaw(r) {
+		if !wire.IsRaw(r) {
 			return false
 		}
 	}
 	return true
-}
-
-func isRaw(r api.Raw) bool {
-	return isWord(r.X) && isWord(r.Y) && isWord(r.Z) && within(r.T, math.MinInt8, math.MaxInt8)
-}
-
-// isWord tells whether x has room in the two bytes of a sample.
-func isWord(x int) bool {
-	return within(x, math.MinInt16, math.MaxInt16)
 }
 
 // do does the transaction; it tells the data of a read.
@@ -75,7 +51,7 @@ func (d *device) do(t api.Tx) []byte {
 		}
 		return nil
 	}
-	if t.Reg == regQueue {
+	if t.Reg == wire.RegQueue {
 		return d.burst(t.Read)
 	}
 	data := make([]byte, t.Read)
@@ -88,15 +64,15 @@ func (d *device) do(t api.Tx) []byte {
 // write lays a byte into a register.
 func (d *device) write(reg int, x byte) {
 	switch reg {
-	case regOn:
+	case wire.RegOn:
 		d.turn(x%2 == 1)
-	case regPeriod:
+	case wire.RegPeriod:
 		d.period = int(x)
 		if x == 0 {
 			d.period = maxPeriod
 		}
-	case regReset:
-		if x == resetByte {
+	case wire.RegReset:
+		if x == wire.ResetByte {
 			d.reset()
 		}
 	}
@@ -120,15 +96,15 @@ func (d *device) reset() {
 // read is the byte of a register; of the queue's it is 0, since a read takes samples out only where it begins there.
 func (d *device) read(reg int) byte {
 	switch reg {
-	case regID:
+	case wire.RegID:
 		return byte(d.id)
-	case regOn:
+	case wire.RegOn:
 		if d.on {
 			return 1
 		}
-	case regPeriod:
+	case wire.RegPeriod:
 		return byte(d.period)
-	case regCount:
+	case wire.RegCount:
 		return byte(d.queue.Len())
 	}
 	return 0
@@ -139,7 +115,7 @@ func (d *device) burst(n int) []byte {
 	var data []byte
 	for len(data) < n {
 		r, there := d.queue.Pop()
-		sample := pack(r)
+		sample := wire.Pack(r)
 		if !there {
 			sample = blank()
 		}
@@ -148,25 +124,9 @@ func (d *device) burst(n int) []byte {
 	return data[:n]
 }
 
-// pack is the bytes of a sample.
-func pack(r api.Raw) [sampleSize]byte {
-	s := [sampleSize]byte{high(r.X), byte(r.X), high(r.Y), byte(r.Y), high(r.Z), byte(r.Z), byte(r.T)}
-	check := byte(checkSeed)
-	for _, x := range s[:sampleSize-1] {
-		check ^= x
-	}
-	s[sampleSize-1] = check
-	return s
-}
-
-// high is the higher byte of a number of 16 bits.
-func high(x int) byte {
-	return byte(x >> 8)
-}
-
 // blank is the bytes where there is no sample.
-func blank() [sampleSize]byte {
-	var s [sampleSize]byte
+func blank() [wire.SampleSize]byte {
+	var s [wire.SampleSize]byte
 	for i := range s {
 		s[i] = noSample
 	}

@@ -1,4 +1,4 @@
-// Package wire: what a device and its driver must both know: addresses, registers, the bytes of a sample: see ../../shared/doc/08-bus.md.
+// Package wire: what a device and those that read it must know: addresses, registers, the bytes of a sample: see ../../shared/doc/08-bus.md.
 package wire
 
 import (
@@ -38,7 +38,11 @@ func IsID(id int) bool {
 }
 
 func IsRaw(r api.Raw) bool {
-	return isWord(r.X) && isWord(r.Y) && isWord(r.Z) && r.T >= math.MinInt8 && r.T <= math.MaxInt8
+	return isWord(r.X) && isWord(r.Y) && isWord(r.Z) && IsTemperature(r.T)
+}
+
+func IsTemperature(t int) bool {
+	return t >= math.MinInt8 && t <= math.MaxInt8
 }
 
 // isWord tells whether x has room in the two bytes of a sample.

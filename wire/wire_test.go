@@ -103,6 +103,7 @@ func TestBounds(t *testing.T) {
 		{"x", func(v int) bool { return wire.IsRaw(api.Raw{X: v}) }, -1 << 15, 1<<15 - 1},
 		{"y", func(v int) bool { return wire.IsRaw(api.Raw{Y: v}) }, -1 << 15, 1<<15 - 1},
 		{"z", func(v int) bool { return wire.IsRaw(api.Raw{Z: v}) }, -1 << 15, 1<<15 - 1},
+		{"temperature", wire.IsTemperature, -128, 127},
 		{"t", func(v int) bool { return wire.IsRaw(api.Raw{T: v}) }, -128, 127},
 	}
 	for _, test := range tests {

@@ -1,17 +1,9 @@
 package drv
 
-import "gimbal/api"
-
-// table is rows, each at the number of its state.
-type table[R any] []R
-
-// at is the row of a state, and whether there is such a state.
-func (t table[R]) at(state int) (row R, there bool) {
-	if state < 0 || state >= len(t) {
-		return row, false
-	}
-	return t[state], true
-}
+import (
+	"gimbal/api"
+	"gimbal/table"
+)
 
 // move is which state one becomes by what is wanted.
 type move struct {
@@ -31,8 +23,9 @@ func (m move) to(want, another bool) int {
 	return m.same
 }
 
-func moves() table[move] {
-	return table[move]{
+// moves are those of the states, each at its state.
+func moves() table.Rows[move] {
+	return table.Rows[move]{
 		api.DrvOff:    {same: api.DrvID, other: api.DrvID, idle: api.DrvOff},
 		api.DrvID:     {same: api.DrvID, other: api.DrvID, idle: api.DrvStop},
 		api.DrvPeriod: {same: api.DrvPeriod, other: api.DrvPeriod, idle: api.DrvStop},

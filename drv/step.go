@@ -4,6 +4,7 @@ import (
 	"slices"
 
 	"gimbal/api"
+	"gimbal/table"
 	"gimbal/wire"
 )
 
@@ -14,8 +15,9 @@ type step struct {
 	take func(d api.Drv, data []byte) (api.Drv, []api.Raw) // what becomes of it by a good answer, and its samples
 }
 
-func steps() table[step] {
-	return table[step]{
+// steps are those of the states, each at its state.
+func steps() table.Rows[step] {
+	return table.Rows[step]{
 		api.DrvOff:    {},
 		api.DrvID:     {ask: askID, fits: isOwn, take: known},
 		api.DrvPeriod: {ask: askPeriod, fits: isAny, take: timed},
@@ -30,7 +32,7 @@ func steps() table[step] {
 
 // asking is what the driver does in its state; false, if it has no transaction there.
 func asking(d api.Drv) (step, bool) {
-	s, there := steps().at(d.State)
+	s, there := steps().At(d.State)
 	return s, there && s.ask != nil
 }
 
